@@ -50,3 +50,44 @@ def div(a, b):
     times = dividend // divisor
     left = dividend % divisor
     return [0] + row_of(times, len(a)) + row_of(left, len(b))
+
+
+def root_of(number):
+    """The largest number whose square isn't above the given one."""
+    if number == 0:
+        return 0
+    # Newton's steps come down to the root only from at or above it, and this start is never below it.
+    guess = 1 << ((number.bit_length() + 1) // 2)
+    closer = (guess + number // guess) // 2
+    while closer < guess:
+        guess = closer
+        closer = (guess + number // guess) // 2
+    return guess
+
+
+def root(a):
+    """0, then the largest number whose square isn't above a, then a less its square, each in a's length; or -2."""
+    if not length_fits(a):
+        return [-2]
+    square = number_of(a)
+    side = root_of(square)
+    return [0] + row_of(side, len(a)) + row_of(square - side * side, len(a))
+
+
+def common_divisor(one, other):
+    """The greatest number that divides both; 0 of two 0s."""
+    found = one
+    rest = other
+    while rest != 0:
+        left = found % rest
+        found = rest
+        rest = left
+    return found
+
+
+def gcd(a, b):
+    """0, then the greatest number that divides a and b in as many words as both have; or -2."""
+    if not length_fits(a) or not length_fits(b):
+        return [-2]
+    divisor = common_divisor(number_of(a), number_of(b))
+    return [0] + row_of(divisor, len(a) + len(b))

@@ -85,8 +85,12 @@ class Interface(unittest.TestCase):
     def test_names_and_arguments(self):
         self.assertEqual(str(inspect.signature(longreckon.desk.mul)), "(a, b)")
         self.assertEqual(str(inspect.signature(longreckon.desk.div)), "(a, b)")
+        self.assertEqual(str(inspect.signature(longreckon.desk.root)), "(a)")
+        self.assertEqual(str(inspect.signature(longreckon.desk.gcd)), "(a, b)")
         self.assertEqual(longreckon.desk.mul(a=[6], b=[7]), [0, 42, 0])
         self.assertEqual(longreckon.desk.div(a=[42], b=[5]), [0, 8, 2])
+        self.assertEqual(longreckon.desk.root(a=[42]), [0, 6, 6])
+        self.assertEqual(longreckon.desk.gcd(a=[12], b=[18]), [0, 6, 0])
 
     def test_prints_nothing(self):
         out = io.StringIO()
@@ -95,6 +99,10 @@ class Interface(unittest.TestCase):
             longreckon.desk.mul([], [7])
             longreckon.desk.div([42], [5])
             longreckon.desk.div([42], [0])
+            longreckon.desk.root([42])
+            longreckon.desk.root([])
+            longreckon.desk.gcd([12], [18])
+            longreckon.desk.gcd([], [18])
         self.assertEqual(out.getvalue(), "")
 
 
