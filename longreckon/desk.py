@@ -2,7 +2,8 @@
 
 A number is handed in and told as a row: a list of 64-bit words, the lowest first.
 An answer is a list that begins with 0, or a refusal's number alone:
--2 where a row's length is out of its range or b is 0 and may not be.
+-2 where a row's length is out of its range or b is 0 and may not be; it comes ahead of every other.
+-5 where no number is the one that turn asks for.
 """
 
 WORD_BITS = 64
@@ -91,3 +92,59 @@ def gcd(a, b):
         return [-2]
     divisor = common_divisor(number_of(a), number_of(b))
     return [0] + row_of(divisor, len(a) + len(b))
+
+
+def turned(number, over):
+    """The number below over that, times the given one, leaves 1; the two have no common divisor but 1."""
+    found = over
+    rest = number % over
+    # At each step, factor times number leaves found, and closer times number leaves rest, but for multiples of over.
+    factor = 0
+    closer = 1
+    while rest != 0:
+        times = found // rest
+        left = found - times * rest
+        found = rest
+        rest = left
+        further = factor - times * closer
+        factor = closer
+        closer = further
+    # The factors are below 0 at every second step.
+    return factor % over
+
+
+def turn(a, b):
+    """0, then the number below b that, times a, leaves 1 over b (0 of b 1), in b's length; or -2, or -5: none."""
+    if not length_fits(a) or not length_fits(b):
+        return [-2]
+    number = number_of(a)
+    over = number_of(b)
+    if over == 0:
+        return [-2]
+    if common_divisor(number, over) != 1:
+        return [-5]
+    return [0] + row_of(turned(number, over), len(b))
+
+
+def power_over(number, exponent, over):
+    """What is left over the last number of the first to the power of the second."""
+    # Over 1 even the power of 0 leaves 0.
+    result = 1 % over
+    square = number % over
+    rest = exponent
+    while rest != 0:
+        if (rest & 1) == 1:
+            result = result * square % over
+        square = square * square % over
+        rest = rest >> 1
+    return result
+
+
+def power(a, e, b):
+    """0, then what is left over b of a to the power of e (0 to the power of 0 is 1), in b's length; or -2."""
+    if not length_fits(a) or not length_fits(e) or not length_fits(b):
+        return [-2]
+    over = number_of(b)
+    if over == 0:
+        return [-2]
+    return [0] + row_of(power_over(number_of(a), number_of(e), over), len(b))

@@ -22,6 +22,14 @@ def mixed(length, seed):
     return words
 
 
+def last_neighbours(limit):
+    """The two largest neighbours in the row of Fibonacci's numbers that are below the limit."""
+    smaller, larger = 1, 1
+    while smaller + larger < limit:
+        smaller, larger = larger, smaller + larger
+    return smaller, larger
+
+
 # Lengths and fillings whose every pair is tried: 0s alone, 0s at the end, all ones, one bit, mixed words.
 SAMPLES = [
     [0], [1], [2], [TOP], [1 << 63],

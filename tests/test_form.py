@@ -87,10 +87,14 @@ class Interface(unittest.TestCase):
         self.assertEqual(str(inspect.signature(longreckon.desk.div)), "(a, b)")
         self.assertEqual(str(inspect.signature(longreckon.desk.root)), "(a)")
         self.assertEqual(str(inspect.signature(longreckon.desk.gcd)), "(a, b)")
+        self.assertEqual(str(inspect.signature(longreckon.desk.turn)), "(a, b)")
+        self.assertEqual(str(inspect.signature(longreckon.desk.power)), "(a, e, b)")
         self.assertEqual(longreckon.desk.mul(a=[6], b=[7]), [0, 42, 0])
         self.assertEqual(longreckon.desk.div(a=[42], b=[5]), [0, 8, 2])
         self.assertEqual(longreckon.desk.root(a=[42]), [0, 6, 6])
         self.assertEqual(longreckon.desk.gcd(a=[12], b=[18]), [0, 6, 0])
+        self.assertEqual(longreckon.desk.turn(a=[3], b=[10]), [0, 7])
+        self.assertEqual(longreckon.desk.power(a=[3], e=[4], b=[10]), [0, 1])
 
     def test_prints_nothing(self):
         out = io.StringIO()
@@ -103,6 +107,11 @@ class Interface(unittest.TestCase):
             longreckon.desk.root([])
             longreckon.desk.gcd([12], [18])
             longreckon.desk.gcd([], [18])
+            longreckon.desk.turn([3], [10])
+            longreckon.desk.turn([4], [10])
+            longreckon.desk.turn([3], [0])
+            longreckon.desk.power([3], [4], [10])
+            longreckon.desk.power([3], [4], [0])
         self.assertEqual(out.getvalue(), "")
 
 

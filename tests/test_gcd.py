@@ -2,15 +2,7 @@ import math
 import unittest
 
 from longreckon.desk import div, gcd, mul, root
-from rows import SAMPLES, TOP, check_leaves_alone, mixed, number, row
-
-
-def last_neighbours(limit):
-    """The two largest neighbours in the row of Fibonacci's numbers that are below the limit."""
-    smaller, larger = 1, 1
-    while smaller + larger < limit:
-        smaller, larger = larger, smaller + larger
-    return smaller, larger
+from rows import SAMPLES, TOP, check_leaves_alone, last_neighbours, mixed, number, row
 
 
 class Divisors(unittest.TestCase):
