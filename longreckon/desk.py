@@ -1,18 +1,22 @@
 """Reckoning with large whole numbers.
 
-A number is handed in and told as a row: a list of 64-bit words, the lowest first.
-An answer is a list that begins with 0, or a refusal's number alone:
--2 where a row's length is out of its range or b is 0 and may not be; it comes ahead of every other.
+A number is handed in and told as a row: a list of 64-bit words, the lowest first. A text is a list of bytes.
+An answer is a list that begins with 0 (text: with how many bytes follow), or a refusal's number alone:
+-2 where a length, base or most is out of its range, or b is 0 and may not be; it comes ahead of every other.
+-3 where a text has bytes that are no digits of its base.
 -5 where no number is the one that turn asks for.
+-7 where a result takes more than most allows.
 """
 
 WORD_BITS = 64
 LARGEST_WORD = 18446744073709551615
-MOST_WORDS = 65536
+MOST_LENGTH = 65536
+MOST_TOLD = 4194304
+DIGITS = "0123456789abcdefghijklmnopqrstuvwxyz"
 
 
-def length_fits(row):
-    return 1 <= len(row) <= MOST_WORDS
+def length_fits(handed):
+    return 1 <= len(handed) <= MOST_LENGTH
 
 
 def number_of(row):
@@ -148,3 +152,67 @@ def power(a, e, b):
     if over == 0:
         return [-2]
     return [0] + row_of(power_over(number_of(a), number_of(e), over), len(b))
+
+
+def base_fits(base):
+    return 2 <= base <= len(DIGITS)
+
+
+def bytes_of(number, base):
+    """The number in that base, the highest digit first."""
+    told = [ord(DIGITS[number % base])]
+    rest = number // base
+    while rest != 0:
+        told.append(ord(DIGITS[rest % base]))
+        rest = rest // base
+    return list(reversed(told))
+
+
+def text(base, most, a):
+    """How many bytes a has in that base, then they; or -2, or -7: more than most."""
+    if not length_fits(a) or not base_fits(base) or not 0 <= most <= MOST_TOLD:
+        return [-2]
+    told = bytes_of(number_of(a), base)
+    if len(told) > most:
+        return [-7]
+    return [len(told)] + told
+
+
+def digit_of(byte):
+    """The digit that the byte stands for; None where it is one in no base."""
+    if ord("0") <= byte <= ord("9"):
+        return byte - ord("0")
+    if ord("a") <= byte <= ord("z"):
+        return byte - ord("a") + 10
+    if ord("A") <= byte <= ord("Z"):
+        return byte - ord("A") + 10
+    return None
+
+
+def all_digits(t, base):
+    for byte in t:
+        digit = digit_of(byte)
+        if digit is None or digit >= base:
+            return False
+    return True
+
+
+def number_told(t, base):
+    """The number that a text of digits alone tells in that base."""
+    number = 0
+    for byte in t:
+        number = number * base + digit_of(byte)
+    return number
+
+
+def read(base, most, t):
+    """0, then the number that t tells in that base, in most words; or -2, or -3: other bytes, or -7: it is longer."""
+    if not length_fits(t) or not base_fits(base) or not 1 <= most <= MOST_LENGTH:
+        return [-2]
+    # A text with other bytes tells no number, so its length in words isn't asked.
+    if not all_digits(t, base):
+        return [-3]
+    number = number_told(t, base)
+    if number.bit_length() > WORD_BITS * most:
+        return [-7]
+    return [0] + row_of(number, most)

@@ -40,6 +40,25 @@ SAMPLES = [
 ]
 
 
+# The largest most that text takes, bases that are tried throughout, and bases out of their range.
+LARGEST_MOST = 4194304
+BASES = (2, 3, 8, 10, 16, 35, 36)
+WRONG_BASES = (0, 1, 37, 38, 64, 256, 4294967295)
+
+
+def spelled(value, base):
+    """The value in that base, found from the highest digit down."""
+    place = 1
+    while place * base <= value:
+        place *= base
+    told = ""
+    while place > 0:
+        told += "0123456789abcdefghijklmnopqrstuvwxyz"[value // place]
+        value %= place
+        place //= base
+    return told
+
+
 class Watched(list):
     """A list that refuses every change, so that one that is undone later is seen too."""
 

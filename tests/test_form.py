@@ -1,16 +1,12 @@
-"""The form of the package's files: what they may hold, and that they print, read and import nothing."""
+"""The form of the package's files: what they may hold."""
 
 import ast
 import builtins
-import contextlib
-import inspect
-import io
 import pathlib
 import re
 import unittest
 
 import longreckon
-import longreckon.desk
 
 FOLDER = pathlib.Path(longreckon.__file__).parent
 FILES = sorted(FOLDER.glob("*.py"))
@@ -29,6 +25,12 @@ LEFT_OUT = (
 WORDS_LEFT_OUT = set("""
     type typing typing_extensions enum Enum IntEnum StrEnum Flag IntFlag Generic Protocol ABC ABCMeta namedtuple
     NamedTuple TypedDict TYPE_CHECKING abstractmethod
+""".split())
+
+METHODS = set("""
+    append clear copy count endswith extend find get index insert isalnum isalpha isdigit islower isspace isupper
+    items join keys ljust lower lstrip partition pop remove replace reverse rfind rjust rpartition rsplit rstrip
+    setdefault split splitlines startswith strip update upper values zfill bit_length
 """.split())
 
 
@@ -80,39 +82,58 @@ class Form(unittest.TestCase):
                 if isinstance(node, ast.Constant):
                     self.assertNotIsInstance(node.value, (float, complex, bytes), file)
 
+    def test_loops_and_assignments_are_plain(self):
+        for file in FILES:
+            for node in nodes(file):
+                if isinstance(node, (ast.For, ast.While)):
+                    self.assertEqual(node.orelse, [], (file, node.lineno))
+                if isinstance(node, ast.Assign):
+                    self.assertEqual(len(node.targets), 1, (file, node.lineno))
+                    self.assertIsInstance(node.targets[0], (ast.Name, ast.Subscript, ast.Attribute), node.lineno)
 
-class Interface(unittest.TestCase):
-    def test_names_and_arguments(self):
-        self.assertEqual(str(inspect.signature(longreckon.desk.mul)), "(a, b)")
-        self.assertEqual(str(inspect.signature(longreckon.desk.div)), "(a, b)")
-        self.assertEqual(str(inspect.signature(longreckon.desk.root)), "(a)")
-        self.assertEqual(str(inspect.signature(longreckon.desk.gcd)), "(a, b)")
-        self.assertEqual(str(inspect.signature(longreckon.desk.turn)), "(a, b)")
-        self.assertEqual(str(inspect.signature(longreckon.desk.power)), "(a, e, b)")
-        self.assertEqual(longreckon.desk.mul(a=[6], b=[7]), [0, 42, 0])
-        self.assertEqual(longreckon.desk.div(a=[42], b=[5]), [0, 8, 2])
-        self.assertEqual(longreckon.desk.root(a=[42]), [0, 6, 6])
-        self.assertEqual(longreckon.desk.gcd(a=[12], b=[18]), [0, 6, 0])
-        self.assertEqual(longreckon.desk.turn(a=[3], b=[10]), [0, 7])
-        self.assertEqual(longreckon.desk.power(a=[3], e=[4], b=[10]), [0, 1])
+    def test_names_are_plain_and_not_pythons_own(self):
+        for file in FILES:
+            for node in nodes(file):
+                bound = None
+                if isinstance(node, (ast.FunctionDef, ast.ClassDef)):
+                    bound = node.name
+                if isinstance(node, ast.arg):
+                    bound = node.arg
+                if isinstance(node, ast.Name) and isinstance(node.ctx, ast.Store):
+                    bound = node.id
+                if bound is not None:
+                    self.assertFalse(hasattr(builtins, bound), (file, bound))
+                    self.assertFalse(bound.startswith("_"), (file, bound))
 
-    def test_prints_nothing(self):
-        out = io.StringIO()
-        with contextlib.redirect_stdout(out), contextlib.redirect_stderr(out):
-            longreckon.desk.mul([6], [7])
-            longreckon.desk.mul([], [7])
-            longreckon.desk.div([42], [5])
-            longreckon.desk.div([42], [0])
-            longreckon.desk.root([42])
-            longreckon.desk.root([])
-            longreckon.desk.gcd([12], [18])
-            longreckon.desk.gcd([], [18])
-            longreckon.desk.turn([3], [10])
-            longreckon.desk.turn([4], [10])
-            longreckon.desk.turn([3], [0])
-            longreckon.desk.power([3], [4], [10])
-            longreckon.desk.power([3], [4], [0])
-        self.assertEqual(out.getvalue(), "")
+    def test_each_name_of_a_files_top_is_bound_once(self):
+        for file in FILES:
+            bound = []
+            for node in ast.parse(file.read_text(encoding="ascii")).body:
+                if isinstance(node, ast.Assign):
+                    bound.append(node.targets[0].id)
+                    self.assertIsInstance(node.value, ast.Constant, (file, node.lineno))
+                elif isinstance(node, ast.FunctionDef):
+                    bound.append(node.name)
+                else:
+                    self.assertIsInstance(node, ast.Expr, (file, node.lineno))
+                    self.assertIsInstance(node.value, ast.Constant, (file, node.lineno))
+            self.assertEqual(len(bound), len(set(bound)), file)
+
+    def test_methods_texts_and_powers(self):
+        for file in FILES:
+            for node in nodes(file):
+                if isinstance(node, ast.Attribute):
+                    self.assertIn(node.attr, METHODS, (file, node.lineno))
+                if isinstance(node, ast.Constant) and isinstance(node.value, str):
+                    self.assertNotIn("%", node.value, (file, node.lineno))
+                self.assertNotIsInstance(node, ast.Pow, file)
+
+    def test_is_stands_beside_none_true_and_false_alone(self):
+        for file in FILES:
+            for node in nodes(file):
+                if isinstance(node, ast.Compare) and isinstance(node.ops[0], (ast.Is, ast.IsNot)):
+                    self.assertIsInstance(node.comparators[0], ast.Constant, (file, node.lineno))
+                    self.assertIn(node.comparators[0].value, (None, True, False), (file, node.lineno))
 
 
 if __name__ == "__main__":
